@@ -207,6 +207,25 @@ func TestParseFieldRejects(t *testing.T) {
 	}
 }
 
+// changedWords returns a text with each of some words put in and in place of another one
+// everywhere, and without one or several words that follow each other.
+func changedWords(text string, extra []string) []string {
+	var texts []string
+	words := strings.Split(text, " ")
+	for i := range len(words) + 1 {
+		for _, word := range extra {
+			texts = append(texts, strings.Join(slices.Insert(slices.Clone(words), i, word), " "))
+			if i < len(words) {
+				texts = append(texts, strings.Join(slices.Replace(slices.Clone(words), i, i+1, word), " "))
+			}
+		}
+		for j := i + 1; j <= len(words); j++ {
+			texts = append(texts, strings.Join(slices.Delete(slices.Clone(words), i, j), " "))
+		}
+	}
+	return texts
+}
+
 // TestParseFieldIsInverse changes every text by a word or a byte, and accepts the changed one
 // only if it is the text of a field.
 func TestParseFieldIsInverse(t *testing.T) {
@@ -232,19 +251,8 @@ func TestParseFieldIsInverse(t *testing.T) {
 				check(text[:i] + text[i+1:])
 			}
 		}
-		words := strings.Split(text, " ")
-		for i := range len(words) + 1 {
-			for _, word := range extra {
-				check(strings.Join(slices.Insert(slices.Clone(words), i, word), " "))
-				if i < len(words) {
-					changed := slices.Clone(words)
-					changed[i] = word
-					check(strings.Join(changed, " "))
-				}
-			}
-			if i < len(words) {
-				check(strings.Join(slices.Delete(slices.Clone(words), i, i+1), " "))
-			}
+		for _, changed := range changedWords(text, extra) {
+			check(changed)
 		}
 	}
 }

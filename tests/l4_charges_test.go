@@ -316,19 +316,8 @@ func TestParseGroupIsInverse(t *testing.T) {
 				check(text[:i] + text[i+1:])
 			}
 		}
-		words := strings.Split(text, " ")
-		for i := range len(words) + 1 {
-			for _, word := range extra {
-				check(strings.Join(slices.Insert(slices.Clone(words), i, word), " "))
-				if i < len(words) {
-					changed := slices.Clone(words)
-					changed[i] = word
-					check(strings.Join(changed, " "))
-				}
-			}
-			if i < len(words) {
-				check(strings.Join(slices.Delete(slices.Clone(words), i, i+1), " "))
-			}
+		for _, changed := range changedWords(text, extra) {
+			check(changed)
 		}
 	}
 }

@@ -381,19 +381,8 @@ func TestParseArmsIsInverse(t *testing.T) {
 				x.check(t, text[:i]+"x"+text[i+1:])
 			}
 		}
-		words := strings.Split(text, " ")
-		for i := range len(words) + 1 {
-			for _, word := range extra {
-				x.check(t, strings.Join(slices.Insert(slices.Clone(words), i, word), " "))
-				if i < len(words) {
-					changed := slices.Clone(words)
-					changed[i] = word
-					x.check(t, strings.Join(changed, " "))
-				}
-			}
-			for j := i + 1; j <= len(words); j++ {
-				x.check(t, strings.Join(slices.Delete(slices.Clone(words), i, j), " "))
-			}
+		for _, changed := range changedWords(text, extra) {
+			x.check(t, changed)
 		}
 	}
 }
@@ -514,16 +503,8 @@ func TestParseOrdinaryIsInverse(t *testing.T) {
 				check(text[:i] + text[i+1:])
 			}
 		}
-		words := strings.Split(text, " ")
-		for i := range len(words) + 1 {
-			for _, word := range extra {
-				check(strings.Join(slices.Insert(slices.Clone(words), i, word), " "))
-				if i < len(words) {
-					changed := slices.Clone(words)
-					changed[i] = word
-					check(strings.Join(changed, " "))
-				}
-			}
+		for _, changed := range changedWords(text, extra) {
+			check(changed)
 		}
 	}
 	for _, s := range append(oddStrings(), "blue, a bend gold", "a bend gold charged with a star red", "a star red", "a a bend gold",
