@@ -667,19 +667,9 @@ func TestRepairArmsOfEveryTincturing(t *testing.T) {
 }
 
 // TestRepairedArmsKeepRules checks the guarantee on all fields: repaired arms have no findings
-// and the same field and shape, and arms without findings remain as they are.
+// and the same field and shape, two changes suffice, and arms without findings remain as they are.
 func TestRepairedArmsKeepRules(t *testing.T) {
-	for i, tinctures := range tincturesFor(3) {
-		for j, f := range fieldsOfRules() {
-			if (i+j)%5 != 0 {
-				continue
-			}
-			for _, shape := range shapesOfRules(f) {
-				a := withTinctures(shape, tinctures[:len(tincturesOfLayers(shape))-1])
-				checkRepair(t, a)
-			}
-		}
-	}
+	everyTincturing(fieldsOfRules(), func(a impl.Arms) { checkRepair(t, a) })
 	for _, a := range someArms() {
 		checkRepair(t, a)
 	}
@@ -704,7 +694,7 @@ func checkRepair(t *testing.T, a impl.Arms) {
 			changes++
 		}
 	}
-	if n != changes || (n == 0) != (len(findingsOf(a)) == 0) {
+	if n != changes || n > 2 || (n == 0) != (len(findingsOf(a)) == 0) {
 		t.Fatalf("RepairArms(%v) = %v with %d changes instead of %d", a, b, n, changes)
 	}
 	if c, m, ok := impl.RepairArms(b); !ok || c != b || m != 0 {
